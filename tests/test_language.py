@@ -1,13 +1,15 @@
 """Rules of the subset of Python that a look at the files can tell: imports, sizes, characters and statements."""
 
 import ast
+import builtins
 import unittest
 from pathlib import Path
 
 FOLDER = Path(__file__).resolve().parent.parent / "thenbeside"
 FILES = sorted(FOLDER.glob("*.py"))
 TREES = [(path, ast.parse(path.read_text(encoding="utf-8"))) for path in FILES]
-LIBRARY = {"math": {"gcd", "lcm", "isqrt", "comb", "perm", "factorial"}}
+LIBRARY = {"math": {"gcd", "lcm", "isqrt", "comb", "perm", "factorial"},
+           "itertools": {"product", "combinations", "permutations"}}
 BARRED = (ast.AsyncFunctionDef, ast.Global, ast.Import, ast.Await, ast.AsyncFor, ast.AsyncWith)
 
 
@@ -50,6 +52,41 @@ class LanguageTest(unittest.TestCase):
                 self.assertNotIsInstance(node, BARRED, path.name)
                 if isinstance(node, ast.Constant):
                     self.assertNotIsInstance(node.value, (float, complex), path.name)
+
+    def test_no_name_has_two_meanings(self):
+        for path, tree in TREES:
+            # The name _ is one of the builtins only while examples are run.
+            taken = (imported(tree) | set(dir(builtins))) - {"_"}
+            for node in ast.walk(tree):
+                if isinstance(node, ast.arg):
+                    self.assertNotIn(node.arg, taken, path.name)
+                elif isinstance(node, ast.Name) and isinstance(node.ctx, ast.Store):
+                    self.assertNotIn(node.id, taken, path.name)
+                elif isinstance(node, ast.FunctionDef):
+                    self.assertNotIn(node.name, taken, path.name)
+
+    def test_each_import_is_used(self):
+        for path, tree in TREES:
+            used = {node.id for node in ast.walk(tree) if isinstance(node, ast.Name)}
+            self.assertLessEqual(imported(tree), used, path.name)
+
+    def test_no_two_files_import_from_each_other(self):
+        below = {path.stem: sources(tree) for path, tree in TREES}
+        while below:
+            free = [name for name, others in below.items() if not others & set(below)]
+            self.assertTrue(free, below)
+            below = {name: others for name, others in below.items() if name not in free}
+
+
+def imported(tree):
+    """The names that a file imports."""
+    return {alias.name for node in tree.body if isinstance(node, ast.ImportFrom) for alias in node.names}
+
+
+def sources(tree):
+    """The names of the files of the package from which a file imports."""
+    modules = [node.module for node in tree.body if isinstance(node, ast.ImportFrom)]
+    return {module.split(".")[1] for module in modules if module.startswith("thenbeside.")}
 
 
 def named(tree):

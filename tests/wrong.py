@@ -3,7 +3,7 @@
 import unittest
 from itertools import combinations
 
-from thenbeside.errors import BadValue, PlanError
+from thenbeside.errors import BadValue, NotPossible, PlanError
 
 
 def deep(levels):
@@ -77,6 +77,55 @@ NOT_TABLES = (
     (("same",) * 100000,), (("same",),) * 100000, (deep(5000),), ((deep(5000),),), deep(5000),
 )
 
+NOT_RELATIONS = (True, False, None, 0, 1, "", "Before", "BESIDE", "before ", "then", "same", "bef", "beforebeside",
+                 ("before",), ["before"], ("before", "after"), b"before", {}, deep(5000))
+
+# Not rules of four tasks.
+NOT_RULES = (
+    True, False, None, 0, 1, "", "before", (), [], {}, (0,), (0, 1), (0, ("before",)), (0, "before", 1),
+    [0, ("before",), 1], (0, ["before"], 1), (0, ("before",), 1, 2), (0, ("before",), 1, ()), (("before",), 0, 1),
+    (0, 1, ("before",)), (0, (), 1), (0, None, 1), (0, 0, 1), (0, True, 1), (0, {"before": 0}, 1),
+    (0, ("after", "before"), 1), (0, ("beside", "before"), 1), (0, ("after", "beside"), 1),
+    (0, ("after", "beside", "before"), 1), (0, ("before", "after", "beside"), 1), (0, ("before", "before"), 1),
+    (0, ("before", "beside", "beside"), 1), (0, ("before", "beside", "after", "after"), 1),
+    (0, ("before", "beside", "after", "same"), 1), (0, ("same",), 1), (0, ("Before",), 1), (0, ("then",), 1),
+    (0, ("before", "then"), 1), (0, ("before", None), 1), (0, ("before", True), 1), (0, (["before"],), 1),
+    (0, (("before",),), 1), (0, (b"before",), 1), (0, (None,), 1), (0, ("before",) * 100000, 1),
+    (0, ("before",), 0), (3, ("beside",), 3), (0, ("before",), 4), (4, ("before",), 0), (-1, ("before",), 1),
+    (0, ("before",), -1), (0, ("before",), True), (False, ("before",), 1), (True, ("before",), 0),
+    (0, ("before",), None), (None, ("before",), 1), ("0", ("before",), 1), (0, ("before",), "1"),
+    (0.0, ("before",), 1), (0, ("before",), 1.0), ((0,), ("before",), 1), (0, ("before",), (1,)),
+    (0, ("before",), 10 ** 30), (deep(5000), ("before",), 1), (0, (deep(5000),), 1), (0, deep(5000), 1), deep(5000),
+)
+
+RULE = (0, ("before",), 1)
+
+# Not problems.
+NOT_PROBLEMS = (
+    True, False, None, 0, 3, "", "problem", (), [], {}, (3,), [3, ()], (3, (), ()), ((), 3), (3, ((), ())), (3, []),
+    (3, None), (3, ""), (3, 0), (3, True), (3, {}), (3, "rules"), (3, RULE), (3, [RULE]), [3, (RULE,)], (3, {RULE: 0}),
+    *((size, ()) for size in NOT_SIZES), (1, (RULE,)), (1, ((0, ("before",), 0),)), (2, ((1, ("before",), 2),)),
+    (8, (RULE,)), (True, (RULE,)), (4, (RULE,) * 21), (7, (RULE,) * 100000), (4, (None,) * 20),
+    (7, ((0, ("before",), 7),)), (deep(5000), ()), (4, deep(5000)), deep(5000), shared(100),
+    *((4, (rule,)) for rule in NOT_RULES), *((4, (RULE, rule)) for rule in NOT_RULES),
+    *((4, (rule, RULE)) for rule in NOT_RULES[::3]), (4, (*(RULE,) * 19, (0, ("before",), 4))),
+)
+
+# Values for judges; none of them is right for any question.
+ANY_VALUES = (
+    *NOT_INTEGERS, 1, -1, "gap", "N", "plan", "set", "always", "never", "sometimes", "beside", ("gap",), ("N",),
+    ("plan",), ("set",), ("always",), ("then",), ("plan", None), ("set", None), ("set", ()), ("set", []),
+    ("plan", []), ("plan", True), ("set", True), ("plan", ()), ("always", ()), ("never", ()), ("always", None),
+    ("sometimes", None, None), ("sometimes", (), ()), ("then", (), ()), ("beside", (), ()), ("then", None, None),
+    ("beside", [0], [1]), ("then", [0], [1]), ["beside", (0,), (1,)], ["gap", 0, 1, 2], ["set", (0, 1)],
+    ("gap", 0), ("gap", None, None, None), ("N", None, None, None, None), ("gap", deep(9), 0, 1), ((), (), ()),
+    ((), ()), ([], [], []), (None, None, None), ((None,), (None,), (None,)), (((),), ((),), ((),)),
+    ((((),),), (((),),), (((),),)), (("0", "1"),) * 3, ((("0", "1"),),) * 3, ("set", deep(5000)), ("plan", deep(5000)),
+    ("plan", shared(100)), ("always", deep(5000)), ("sometimes", deep(5000), shared(100)), ("then", deep(5000), (0,)),
+    deep(5000), shared(100), (0,) * 100000, tuple(range(100000)), ("set", (0,) * 100000), ((0,) * 100000,) * 3,
+    ((deep(5000),),) * 3, (((deep(5000), 0),),) * 3, ("gap", 10 ** 30, 0, 1), {"set": (0, 1)}, b"set", ("SET", (0, 1)),
+)
+
 
 def not_tasks(size):
     """Values that are not one of so many tasks."""
@@ -136,3 +185,15 @@ class WrongCase(unittest.TestCase):
                                  for at in range(len(parameters))]
                     with self.subTest(function=function.__name__, places=places, shift=shift):
                         self.check_bad(names[places[0]], function, *arguments)
+
+    def check_not_possible(self, why, function, *arguments):
+        """Check that the call raises NotPossible with this reason."""
+        with self.assertRaises(NotPossible) as caught:
+            function(*arguments)
+        self.assertEqual(caught.exception.why, why)
+
+    def check_refuses(self, judge, *arguments):
+        """Check that the judge refuses values of every kind, and raises no error for them."""
+        for index, value in enumerate(ANY_VALUES):
+            with self.subTest(judge=judge.__name__, index=index):
+                self.assertIs(judge(*arguments, value), False)

@@ -1,6 +1,6 @@
 """Plans: tasks that are arranged by "then" and "beside"."""
 
-from thenbeside.basics import MOST_TASKS, is_order, is_set, is_size, is_task, require
+from thenbeside.basics import MOST_TASKS, is_index, is_order, is_set, is_size, require
 from thenbeside.errors import TooLarge
 
 WORDS = ("then", "beside")
@@ -72,7 +72,7 @@ def size_of(value):
     waiting = [("", value)]
     while waiting:
         outer, item = waiting.pop()
-        if is_task(item, MOST_TASKS):
+        if is_index(item, MOST_TASKS):
             found.append(item)
         elif has_parts(item) and item[0] != outer:
             waiting.extend([(item[0], piece) for piece in item[1]])
@@ -101,8 +101,8 @@ def checked_size(plan):
 def check_two_tasks(plan, first, second):
     """Raise BadValue unless the first and the second one are two different tasks of the plan."""
     size = checked_size(plan)
-    require(is_task(first, size), "first")
-    require(is_task(second, size) and second != first, "second")
+    require(is_index(first, size), "first")
+    require(is_index(second, size) and second != first, "second")
 
 
 # The functions below are given plans and parts of plans that have been checked.
