@@ -1,0 +1,105 @@
+"""The largest problems that the document allows are answered within seconds by each function."""
+
+import unittest
+from itertools import combinations
+from time import process_time
+
+from thenbeside.dropping import (accepts_grounds, can_be_dropped, grounds_for, is_possible, plan_without, smallest_base,
+                                 told_base)
+from thenbeside.listing import count_among, count_plans, index_of_plan, nth_plan, plans_from
+from thenbeside.rules import gathered, keeps
+from thenbeside.shapes import flaw, plan_of
+from thenbeside.solving import accepts, least_stuck, solve, splits, with_split
+from thenbeside.sticking import is_stuck
+from thenbeside.tables import table_of
+from thenbeside.verdicts import accepts_verdict, evidence_for, implied_rules, open_relations, verdict
+from tests.problems import BEFORE, LARGE, WORDS, kept_by_plan
+from tests.samples import MIXED_PLANS
+
+MOST_SECONDS = 5
+TASKS = tuple(range(7))
+PAIRS = tuple(combinations(TASKS, 2))
+
+# Seven tasks without rules, and with twenty rules: strict ones, loose ones, and rules that are needed or not.
+SOLVABLE = (
+    (7, ()),
+    (7, tuple((x, ("before", "beside"), y) for x, y in PAIRS[:20])),
+    (7, tuple((x, BEFORE, y) for x, y in PAIRS[1:])),
+    (7, tuple((x, WORDS, y) for x, y in PAIRS[:20])),
+    (7, ((5, ("beside", "after"), 6),) * 20),
+    *(kept_by_plan(seed, MIXED_PLANS[7 + seed % 4], 20) for seed in range(6)),
+)
+CONTRADICTORY = tuple(problem for problem in LARGE if problem[0] == 7 and solve(problem)[0] == "set")
+
+
+class LargestTest(unittest.TestCase):
+    def timed(self, function, *arguments):
+        """What the function returns, within a few seconds."""
+        start = process_time()
+        result = function(*arguments)
+        self.assertLess(process_time() - start, MOST_SECONDS, function.__name__)
+        return result
+
+    def test_solving(self):
+        for problem in (*SOLVABLE, *CONTRADICTORY):
+            answer = self.timed(solve, problem)
+            self.assertEqual(answer[0], "plan" if problem in SOLVABLE else "set")
+            self.assertIs(self.timed(accepts, problem, answer), True)
+            stuck = self.timed(least_stuck, problem)
+            self.assertIs(stuck is None, answer[0] == "plan")
+            if stuck is not None:
+                self.assertIs(self.timed(is_stuck, problem, stuck), True)
+            found = self.timed(splits, problem, TASKS)
+            for split in found[:3]:
+                plan = self.timed(with_split, problem, split)
+                self.assertIs(plan is None, answer[0] == "set")
+            self.timed(gathered, problem)
+
+    def test_verdicts(self):
+        for problem in SOLVABLE:
+            self.assertLessEqual(len(self.timed(implied_rules, problem)), 21)
+            for first, second in ((0, 6), (6, 3)):
+                found = self.timed(open_relations, problem, first, second)
+                for word in WORDS:
+                    told = self.timed(verdict, problem, first, word, second)
+                    self.assertIs(told == "never", word not in found)
+                    value = self.timed(evidence_for, problem, first, word, second)
+                    self.assertIs(self.timed(accepts_verdict, problem, first, word, second, value), True)
+
+    def test_listing(self):
+        for problem in (*SOLVABLE, *CONTRADICTORY):
+            many = self.timed(count_plans, problem)
+            self.assertIs(many > 0, problem in SOLVABLE)
+            self.assertEqual(self.timed(count_among, problem, TASKS), many)
+            plans = self.timed(plans_from, problem, max(0, many - 20), 20)
+            self.assertEqual(len(plans), min(20, many))
+            if many:
+                self.assertEqual(self.timed(nth_plan, problem, many - 1), plans[-1])
+                self.assertEqual(self.timed(index_of_plan, problem, plans[-1]), many - 1)
+                self.assertIs(self.timed(keeps, problem, plans[0]), True)
+
+    def test_dropping(self):
+        for problem in SOLVABLE:
+            size, rules = problem
+            indexes = tuple(range(len(rules)))
+            self.assertIs(self.timed(is_possible, problem, indexes), True)
+            base = self.timed(told_base, problem)
+            self.assertLessEqual(set(base), set(indexes))
+            for start in (0, 12):
+                fewer = (size, rules[start:start + 8])
+                self.assertLessEqual(len(self.timed(smallest_base, fewer)), len(self.timed(told_base, fewer)))
+            for index in indexes[::3]:
+                dropped = self.timed(can_be_dropped, problem, indexes, index)
+                self.assertIs(self.timed(plan_without, problem, indexes, index) is None, dropped)
+                value = self.timed(grounds_for, problem, indexes, index)
+                self.assertIs(self.timed(accepts_grounds, problem, indexes, index, value), dropped)
+
+    def test_shapes(self):
+        for plan in MIXED_PLANS[7:]:
+            table = table_of(plan)
+            self.assertIsNone(self.timed(flaw, table))
+            self.assertEqual(table_of(self.timed(plan_of, table)), table)
+
+
+if __name__ == "__main__":
+    unittest.main()
