@@ -1,6 +1,7 @@
 """Plans to test with, and what is so of them, told without the program."""
 
 from itertools import combinations, permutations
+from random import Random
 
 # Plans of one to seven tasks, with several levels, and with the parts of "beside" in any sequence.
 MIXED_PLANS = (
@@ -48,6 +49,29 @@ def plans_of(tasks):
         for blocks in parted(tasks):
             for parts in filled(blocks, word):
                 yield (word, parts)
+
+
+def drawn_plan(seed, size):
+    """A plan of so many tasks, not always a normal one; it is the same one for each seed."""
+    source = Random(seed)
+    tasks = list(range(size))
+    source.shuffle(tasks)
+    return drawn_part(source, tasks, source.randrange(2))
+
+
+def drawn_part(source, tasks, word):
+    """A drawn part of a plan with these tasks, a list, which has this word, told by its index."""
+    if len(tasks) == 1:
+        return tasks[0]
+    ends = sorted(source.sample(range(1, len(tasks)), source.randrange(1, min(len(tasks), 4))))
+    pieces = [tasks[start:end] for start, end in zip([0, *ends], [*ends, len(tasks)])]
+    return (("then", "beside")[word], tuple(drawn_part(source, piece, 1 - word) for piece in pieces))
+
+
+def drawn_durations(seed, size):
+    """Durations for so many tasks, all of them short, or of every length; they are the same ones for each seed."""
+    source = Random(seed)
+    return tuple(source.randint(1, (3, 5, 99)[seed % 3]) for _ in range(size))
 
 
 def tasks_of(plan):
@@ -108,3 +132,7 @@ def table_from(told, size):
 SMALL_PLANS = [plan for size in range(1, 5) for plan in plans_of(tuple(range(size)))]
 NORMAL_PLANS = [plan for plan in SMALL_PLANS if is_normal(plan)]
 PLANS_OF_FIVE = [plan for plan in plans_of(tuple(range(5))) if is_normal(plan)]
+# Plans of one to seven tasks with durations.
+TIMED_PLANS = [(plan, drawn_durations(seed, len(tasks_of(plan))))
+               for seed, plan in enumerate([*SMALL_PLANS[::3], *PLANS_OF_FIVE[::23], *MIXED_PLANS,
+                                            *(drawn_plan(seed, 5 + seed % 3) for seed in range(150))])]

@@ -1,15 +1,16 @@
 """Points 83 to 87 and 91 to 93: rules that can be dropped from a collection, and bases."""
 
 import unittest
-from itertools import combinations, product
+from itertools import product
 
 from thenbeside.dropping import (accepts_grounds, can_be_dropped, grounds_for, is_possible, plan_without, smallest_base,
                                  told_base)
 from thenbeside.errors import TooLarge
 from thenbeside.plans import is_plan
 from thenbeside.solving import solve
+from tests.kept import Kept, collections_of
 from tests.problems import (AFTER, ALL_OF_THREE, BEFORE, BESIDE, CHAIN, EXAMPLE, HAND_MADE, LARGE, LISTS, NOTHING_LEFT,
-                            OF_FIVE, OF_FOUR, RING, SHAPE, TOLD, VERDICTS, WORDS, by_indexes, drawn, is_kept_by,
+                            OF_FIVE, OF_FOUR, RING, SHAPE, VERDICTS, WORDS, by_indexes, drawn, is_kept_by,
                             kept_by_plan, kept_plans, others, stuck_sets, with_rule)
 from tests.samples import NORMAL_PLANS, is_normal, relations_of, sets_of
 from tests.wrong import NOT_PROBLEMS, WrongCase, not_ascending, not_tasks
@@ -24,50 +25,7 @@ PROBLEMS = (*HAND_MADE[7:17], *ALL_OF_THREE[3::25], *OF_FOUR[::5], *OF_FIVE[2:4]
 LARGE_SOLVABLE = tuple(problem for problem in LARGE if solve(problem)[0] == "plan")
 
 
-class Kept:
-    """Which plans keep which rules of a problem: for each rule the set of the indexes of these plans."""
-
-    def __init__(self, problem):
-        self.all = frozenset(range(len(TOLD[problem[0]])))
-        self.sets = [frozenset(at for at, (_, told) in enumerate(TOLD[problem[0]])
-                               if is_kept_by((problem[0], (rule,)), told)) for rule in problem[1]]
-
-    def by(self, collection):
-        """The plans that keep all rules of the collection."""
-        found = self.all
-        for index in collection:
-            found = found & self.sets[index]
-        return found
-
-    def drops(self, collection, index):
-        """Whether the rule can be dropped from the collection."""
-        rest = self.by(other for other in collection if other != index)
-        return rest <= self.sets[index]
-
-    def bases(self):
-        """The list of all bases, those with fewer rules first."""
-        whole = self.by(range(len(self.sets)))
-        return [collection for many in range(len(self.sets) + 1)
-                for collection in combinations(range(len(self.sets)), many)
-                if self.by(collection) == whole and not any(self.drops(collection, index) for index in collection)]
-
-    def told(self):
-        """The told base."""
-        left = list(range(len(self.sets)))
-        for index in range(len(self.sets) - 1, -1, -1):
-            if self.drops(left, index):
-                left.remove(index)
-        return tuple(left)
-
-
 KEPT = {problem: Kept(problem) for problem in PROBLEMS}
-
-
-def collections_of(problem):
-    """Some collections of the problem, the empty one and that of all rules among them."""
-    indexes = range(len(problem[1]))
-    found = [collection for many in range(len(indexes) + 1) for collection in combinations(indexes, many)]
-    return found if len(found) < 40 else [*found[::len(found) // 30], found[-1]]
 
 
 def against(problem, collection, index):

@@ -41,6 +41,17 @@ FUNCTIONS = {
                  "accepts_grounds": ("problem", "collection", "index", "value"),
                  "plan_without": ("problem", "collection", "index"), "told_base": ("problem",),
                  "smallest_base": ("problem",)},
+    "conflicts": {"told_conflict": ("problem",), "smallest_conflict": ("problem",),
+                  "conflict_grounds": ("problem", "collection"),
+                  "accepts_conflict": ("problem", "collection", "value"), "smallest_removal": ("problem",),
+                  "removal_grounds": ("problem", "collection"),
+                  "accepts_removal": ("problem", "collection", "value")},
+    "times": {"starts": ("plan", "durations"), "length": ("plan", "durations"), "slacks": ("plan", "durations"),
+              "told_chain": ("plan", "durations"), "length_grounds": ("plan", "durations"),
+              "accepts_length": ("plan", "durations", "number", "value")},
+    "widths": {"width": ("plan",), "widest_set": ("plan",), "count_abreast": ("plan",), "width_grounds": ("plan",),
+               "accepts_width": ("plan", "value")},
+    "scanning": {"scan": ("text",)},
 }
 
 

@@ -4,15 +4,20 @@ import unittest
 from itertools import combinations
 from time import process_time
 
+from thenbeside.conflicts import (accepts_conflict, accepts_removal, conflict_grounds, removal_grounds,
+                                  smallest_conflict, smallest_removal, told_conflict)
 from thenbeside.dropping import (accepts_grounds, can_be_dropped, grounds_for, is_possible, plan_without, smallest_base,
                                  told_base)
 from thenbeside.listing import count_among, count_plans, index_of_plan, nth_plan, plans_from
 from thenbeside.rules import gathered, keeps
+from thenbeside.scanning import scan
 from thenbeside.shapes import flaw, plan_of
 from thenbeside.solving import accepts, least_stuck, solve, splits, with_split
 from thenbeside.sticking import is_stuck
 from thenbeside.tables import table_of
+from thenbeside.times import accepts_length, length, length_grounds, slacks, starts, told_chain
 from thenbeside.verdicts import accepts_verdict, evidence_for, implied_rules, open_relations, verdict
+from thenbeside.widths import accepts_width, count_abreast, widest_set, width, width_grounds
 from tests.problems import BEFORE, LARGE, WORDS, kept_by_plan
 from tests.samples import MIXED_PLANS
 
@@ -93,6 +98,47 @@ class LargestTest(unittest.TestCase):
                 self.assertIs(self.timed(plan_without, problem, indexes, index) is None, dropped)
                 value = self.timed(grounds_for, problem, indexes, index)
                 self.assertIs(self.timed(accepts_grounds, problem, indexes, index, value), dropped)
+
+    def test_conflicts(self):
+        for problem in (*SOLVABLE, *CONTRADICTORY):
+            indexes = tuple(range(len(problem[1])))
+            conflict = self.timed(told_conflict, problem)
+            self.assertIs(conflict is None, problem in SOLVABLE)
+            for collection in (indexes, conflict or ()):
+                value = self.timed(conflict_grounds, problem, collection)
+                self.assertIs(self.timed(accepts_conflict, problem, collection, value), value is not None)
+            value = self.timed(removal_grounds, problem, ())
+            self.assertIs(self.timed(accepts_removal, problem, (), value), conflict is None)
+            for start in (0, 6, 12):
+                fewer = (7, problem[1][start:start + 8])
+                conflict = self.timed(smallest_conflict, fewer)
+                removal = self.timed(smallest_removal, fewer)
+                self.assertIs(conflict is None, removal == ())
+                value = self.timed(removal_grounds, fewer, removal)
+                self.assertIs(self.timed(accepts_removal, fewer, removal, value), True)
+
+    def test_eight_rules_with_a_conflict_of_all(self):
+        for problem in ((7, tuple((x, BEFORE, (x + 1) % 7) for x in range(7)) + ((0, WORDS, 6),)),
+                        (7, ((0, BEFORE, 1),) * 7 + ((1, BEFORE, 0),))):
+            self.assertGreater(len(self.timed(smallest_conflict, problem)), 1)
+            self.assertEqual(len(self.timed(smallest_removal, problem)), 1)
+
+    def test_times_and_widths(self):
+        for plan in MIXED_PLANS[7:]:
+            for durations in ((1,) * 7, (99,) * 7, (1, 99, 98, 2, 3, 50, 49)):
+                value = self.timed(length_grounds, plan, durations)
+                self.assertEqual(value, (self.timed(starts, plan, durations), self.timed(told_chain, plan, durations)))
+                number = self.timed(length, plan, durations)
+                self.assertIs(self.timed(accepts_length, plan, durations, number, value), True)
+                self.assertEqual(len(self.timed(slacks, plan, durations)), 7)
+            value = self.timed(width_grounds, plan)
+            self.assertIs(self.timed(accepts_width, plan, value), True)
+            self.assertEqual(self.timed(width, plan), len(self.timed(widest_set, plan)))
+            self.assertGreater(self.timed(count_abreast, plan), 7)
+
+    def test_scanning(self):
+        for text in ("a" + " " * 599, "a " * 300, ")" * 600, "(" * 6 + ")(" * 297, "1 then " * 85):
+            self.assertEqual(self.timed(scan, text)[-1], ("end", "", len(text) + 1))
 
     def test_shapes(self):
         for plan in MIXED_PLANS[7:]:

@@ -49,7 +49,7 @@ def told_base(problem):
     """Return the told base: what is left if rules are dropped from the last one to the first one."""
     check_problem(problem)
     check_solvable(problem)
-    indexes = tuple(range(len(problem[1])))
+    indexes = all_rules(problem)
     left = indexes
     for index in indexes[::-1]:
         if plan_against(problem, left, index) is None:
@@ -61,9 +61,8 @@ def smallest_base(problem):
     """Return the first one of the bases with the fewest rules."""
     check_problem(problem)
     check_solvable(problem)
-    if len(problem[1]) > MOST_COMPARED:
-        raise TooLarge("rules")
-    indexes = tuple(range(len(problem[1])))
+    check_few_rules(problem)
+    indexes = all_rules(problem)
     # From the fewest rules with the same solutions none can be dropped: this is a base.
     for collection in sets_of(indexes, 0, len(indexes) - 1):
         if all(plan_against(problem, collection, index) is None for index in without(indexes, collection)):
@@ -83,7 +82,18 @@ def check_rule_in(problem, collection, index):
     require(is_index(index, len(problem[1])) and index in collection, "index")
 
 
+def check_few_rules(problem):
+    """Raise TooLarge if the problem has too many rules for all of its collections to be compared."""
+    if len(problem[1]) > MOST_COMPARED:
+        raise TooLarge("rules")
+
+
 # The functions below are given what has been checked.
+
+
+def all_rules(problem):
+    """Return the collection of all rules of the problem."""
+    return tuple(range(len(problem[1])))
 
 
 def by_collection(problem, collection):
