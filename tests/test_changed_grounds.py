@@ -1,4 +1,4 @@
-"""Grounds of every chapter: those that are returned are accepted, and with one thing changed judged as the points say."""
+"""Grounds of every chapter: those that are returned are accepted; with one thing changed they are judged rightly."""
 
 import unittest
 from itertools import permutations
@@ -34,9 +34,10 @@ class ChangedGroundsTest(unittest.TestCase):
 
     def test_flaws(self):
         ring = table_from({(x, y): "before" if (y - x) % 3 == 1 else "after" for x, y in permutations(range(3), 2)}, 3)
-        shape = table_from({pair: "beside" for pair in permutations(range(4), 2)} | {
-            pair: "before" for pair in ((0, 2), (1, 2), (1, 3))} | {pair: "after" for pair in ((2, 0), (2, 1), (3, 1))}, 4)
-        for table in (ring, shape):
+        told = {pair: "beside" for pair in permutations(range(4), 2)}
+        for x, y in ((0, 2), (1, 2), (1, 3)):
+            told[x, y], told[y, x] = "before", "after"
+        for table in (ring, table_from(told, 4)):
             self.check(shapes.shows_flaw, judges.is_right_flaw, shapes.flaw(table), table)
 
     def test_splits(self):

@@ -52,7 +52,13 @@ FUNCTIONS = {
     "widths": {"width": ("plan",), "widest_set": ("plan",), "count_abreast": ("plan",), "width_grounds": ("plan",),
                "accepts_width": ("plan", "value")},
     "scanning": {"scan": ("text",)},
+    "reading": {"next_tokens": ("text", "kind"), "read_plan": ("text",), "read_problem": ("text",)},
+    "writing": {"plan_text": ("plan",), "problem_text": ("problem",)},
+    "journals": {"replayed": ("size", "journal"), "are_right": ("size", "records")},
 }
+
+METHODS = {"act": ("command",), "undo": (), "problem": (), "journal": (), "answer": (), "accepts": ("value",),
+           "records": (), "fate": ("plan",), "twin": ()}
 
 
 def defined(module, kind):
@@ -72,6 +78,26 @@ class InterfaceTest(unittest.TestCase):
                 for parameter in parameters.values():
                     self.assertIs(parameter.kind, inspect.Parameter.POSITIONAL_OR_KEYWORD)
                     self.assertIs(parameter.default, inspect.Parameter.empty)
+
+    def check_parameters(self, function, arguments):
+        """The function has these parameters, which have no default values, behind the object itself."""
+        parameters = inspect.signature(function).parameters
+        self.assertEqual(tuple(parameters), ("self", *arguments))
+        for parameter in parameters.values():
+            self.assertIs(parameter.kind, inspect.Parameter.POSITIONAL_OR_KEYWORD)
+            self.assertIs(parameter.default, inspect.Parameter.empty)
+
+    def test_book(self):
+        self.assertIn("Book", defined("book", ast.ClassDef))
+        book = importlib.import_module("thenbeside.book").Book
+        self.check_parameters(book.__init__, ("size",))
+        for name, arguments in METHODS.items():
+            # Each method stands in the body of the class itself.
+            self.check_parameters(vars(book)[name], arguments)
+
+    def test_each_module_is_listed(self):
+        files = {path.stem for path in FOLDER.glob("*.py")} - {"__init__", "basics", "grammar"}
+        self.assertEqual(files, {*CLASSES, *FUNCTIONS, "book"})
 
     def test_classes(self):
         for module, classes in CLASSES.items():

@@ -4,11 +4,14 @@ import unittest
 from itertools import combinations
 from time import process_time
 
+from thenbeside.book import Book
 from thenbeside.conflicts import (accepts_conflict, accepts_removal, conflict_grounds, removal_grounds,
                                   smallest_conflict, smallest_removal, told_conflict)
 from thenbeside.dropping import (accepts_grounds, can_be_dropped, grounds_for, is_possible, plan_without, smallest_base,
                                  told_base)
+from thenbeside.journals import are_right, replayed
 from thenbeside.listing import count_among, count_plans, index_of_plan, nth_plan, plans_from
+from thenbeside.reading import next_tokens, read_plan, read_problem
 from thenbeside.rules import gathered, keeps
 from thenbeside.scanning import scan
 from thenbeside.shapes import flaw, plan_of
@@ -17,6 +20,7 @@ from thenbeside.sticking import is_stuck
 from thenbeside.tables import table_of
 from thenbeside.times import accepts_length, length, length_grounds, slacks, starts, told_chain
 from thenbeside.verdicts import accepts_verdict, evidence_for, implied_rules, open_relations, verdict
+from thenbeside.writing import plan_text, problem_text
 from thenbeside.widths import accepts_width, count_abreast, widest_set, width, width_grounds
 from tests.problems import BEFORE, LARGE, WORDS, kept_by_plan
 from tests.samples import MIXED_PLANS
@@ -139,6 +143,32 @@ class LargestTest(unittest.TestCase):
     def test_scanning(self):
         for text in ("a" + " " * 599, "a " * 300, ")" * 600, "(" * 6 + ")(" * 297, "1 then " * 85):
             self.assertEqual(self.timed(scan, text)[-1], ("end", "", len(text) + 1))
+
+    def test_reading_and_writing(self):
+        for plan in MIXED_PLANS[7:]:
+            text = self.timed(plan_text, plan)
+            self.assertEqual(self.timed(read_plan, text + " " * (600 - len(text))), plan)
+            self.assertIn("the end", self.timed(next_tokens, text, "plan"))
+        for problem in (*SOLVABLE, *CONTRADICTORY):
+            text = self.timed(problem_text, problem)
+            self.assertEqual(self.timed(read_problem, " " * (600 - len(text)) + text), problem)
+            self.assertIn("the end", self.timed(next_tokens, text, "problem"))
+        self.assertEqual(self.timed(next_tokens, "(a then " * 6 + "b" + " then c" * 70, "plan"), ["then", '")"'])
+        self.assertEqual(self.timed(next_tokens, "7:" + "a after b," * 59 + "c", "problem")[0], "beside")
+
+    def test_books(self):
+        for problem in (*SOLVABLE, *CONTRADICTORY):
+            book = Book(7)
+            for rule in problem[1]:
+                self.timed(book.act, ("add", rule))
+            self.assertEqual(self.timed(book.problem), problem)
+            records = self.timed(book.records)
+            self.assertIs(self.timed(are_right, 7, records), True)
+            self.assertIs(self.timed(book.accepts, self.timed(book.answer)), True)
+            self.assertIn(0, self.timed(book.fate, MIXED_PLANS[7]))
+            other = self.timed(replayed, 7, self.timed(book.journal))
+            self.assertEqual(self.timed(other.twin).problem(), problem)
+            self.assertIs(self.timed(other.undo) is None, problem[1] == ())
 
     def test_shapes(self):
         for plan in MIXED_PLANS[7:]:

@@ -6,12 +6,12 @@ from thenbeside.scanning import scan
 from tests.texts import check_text_error, drawn_texts, tokens_of
 from tests.wrong import WrongCase, deep
 
-NOT_TEXTS = (True, False, None, 0, 1, 1.0, (), ("a",), [], ["a"], ["a", "then", "b"], {}, {"a": 0}, b"", b"a", b"a then b",
-             deep(3), deep(5000), "\n", "a\n", "\na", "a then\nb", "a" * 599 + "\n", "a" * 600 + "\n", "a" * 601,
-             " " * 601, "(" * 601, "a" * 10000, "3:\n", "a\r\nb", "\n" * 600, "$" * 601)
+NOT_TEXTS = (True, False, None, 0, 1, 1.0, (), ("a",), [], ["a"], ["a", "then", "b"], {}, {"a": 0}, b"", b"a",
+             b"a then b", deep(3), deep(5000), "\n", "a\n", "\na", "a then\nb", "a" * 599 + "\n", "a" * 600 + "\n",
+             "a" * 601, " " * 601, "(" * 601, "a" * 10000, "3:\n", "a\r\nb", "\n" * 600, "$" * 601)
 
-EVERY_TOKEN = ("a", "b", "c", "d", "e", "f", "g", "then", "beside", "before", "after", "(", ")", "|", ",", ":", "0", "12",
-               "999999")
+EVERY_TOKEN = ("a", "b", "c", "d", "e", "f", "g", "then", "beside", "before", "after", "(", ")", "|", ",", ":", "0",
+               "12", "999999")
 
 
 def kind_of(characters):

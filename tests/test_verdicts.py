@@ -222,7 +222,8 @@ class AcceptsVerdictTest(WrongCase):
             self.assertIs(accepts_verdict(VERDICTS, 0, "before", 2, ("sometimes", plans[0], wrong)), False)
         for value in (["always", (0, 1)], ("always", [0, 1]), ("always", (1, 0)), ("always", (0, 1), ()),
                       ("always", 0, 1), ("always", (False, 1)), ("always", (0, True)), ("Always", (0, 1)),
-                      ("set", (0, 1)), (0, 1), ("always", (0, 1, 1)), ("always", (0, 1, 3)), ("never", (0, 1)), ("always",)):
+                      ("set", (0, 1)), (0, 1), ("always", (0, 1, 1)), ("always", (0, 1, 3)), ("never", (0, 1)),
+                      ("always",)):
             self.assertIs(accepts_verdict(VERDICTS, 1, "after", 0, value), False)
         self.assertIs(accepts_verdict(VERDICTS, 1, "after", 0, ("always", (0, 1))), True)
 

@@ -133,7 +133,7 @@ def pieces_of_plan(plan, source=None):
             pieces += ([plan[0]] if at else []) + (told if isinstance(part, int) else ["(", *told, ")"])
         if source and len(plan[1]) > 2 and source.randrange(2):
             pieces = grouped(plan, source)
-    # As each level can have one pair more: the depth stays within the six that are allowed for small plans only.
+    # As each level can have a pair more, the depth of what results is within the six that are allowed for most plans.
     if source and depth_of(pieces) < 3 and source.randrange(3) == 0:
         pieces = ["(", *pieces, ")"]
     return pieces
@@ -150,13 +150,14 @@ def grouped(plan, source):
     return pieces
 
 
+def still_open(pieces):
+    """How many parentheses are open behind the pieces, which close none that is not open."""
+    return pieces.count("(") - pieces.count(")")
+
+
 def depth_of(pieces):
     """How many parentheses stand within one another at most."""
-    depth = most = 0
-    for piece in pieces:
-        depth += (piece == "(") - (piece == ")")
-        most = max(most, depth)
-    return most
+    return max(still_open(pieces[:many]) for many in range(len(pieces) + 1))
 
 
 def plain_plan_text(plan):
@@ -187,6 +188,48 @@ def pieces_of_problem(problem, source):
         told = [piece for word in drawn for piece in ("|", word)][1:]
         pieces += ([","] if at else []) + [LETTERS[first], *told, LETTERS[second]]
     return pieces
+
+
+def missed_in_plan(tokens):
+    """The pair (column, words) for the first problem of tokens that follow the grammar of plans, or None."""
+    found = []
+    for kind, characters, column in tokens:
+        if kind == "task":
+            if characters in found:
+                return (column, "this task stands already")
+            found.append(characters)
+    return None if set(found) == set(LETTERS[:len(found)]) else (tokens[-1][2], "a task is missing")
+
+
+def missed_in_problem(tokens):
+    """The pair (column, words) for the first problem of tokens that follow the grammar of problems, or None."""
+    size = int(tokens[0][1])
+    if size not in range(1, 8):
+        return (tokens[0][2], "a size is from 1 to 7")
+    rules, rule = 0, []
+    for kind, characters, column in tokens[2:-1]:
+        if not rule and rules == 20:
+            return (column, "there are at most 20 rules")
+        if kind == "task" and LETTERS.index(characters) >= size:
+            return (column, "there is no such task")
+        if kind == "word" and characters in rule:
+            return (column, "this relation stands already")
+        if kind == "task" and characters in rule:
+            return (column, "a rule has two different tasks")
+        rule = [] if characters == "," else [*rule, characters]
+        rules += characters == ","
+    return None
+
+
+MISSED = {"plan": missed_in_plan, "problem": missed_in_problem}
+
+
+def first_problem(text, kind):
+    """The pair (column, words) for the first problem of the text of this kind, or None."""
+    tokens = tokens_of(text)
+    if isinstance(tokens, tuple):
+        return tokens
+    return problem_of_grammar(tokens, kind) or MISSED[kind](tokens)
 
 
 def drawn_texts(many):

@@ -16,7 +16,7 @@ def solve(problem):
 def accepts(problem, answer):
     """Tell whether the judge accepts the answer."""
     check_problem(problem)
-    return isinstance(answer, tuple) and len(answer) == 2 and is_answer(problem, answer[0], answer[1])
+    return is_accepted(problem, answer)
 
 
 def splits(problem, chosen):
@@ -63,6 +63,11 @@ def all_tasks(problem):
 def answer_to(problem):
     """Return an answer for the problem, ("plan", plan) with a normal plan or ("set", chosen)."""
     return answer_in(choices_of(problem), all_tasks(problem))
+
+
+def is_accepted(problem, value):
+    """Tell whether the value, whatever it is, is an answer that the judge accepts."""
+    return isinstance(value, tuple) and len(value) == 2 and is_answer(problem, value[0], value[1])
 
 
 def is_answer(problem, word, value):
